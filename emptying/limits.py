@@ -1,0 +1,19 @@
+"""The limits and the error codes that the document names."""
+
+EXIT_PLACE = 0
+
+MOST_PLACES = 5
+MOST_HORIZON = 8
+MOST_SPAN = 20
+MOST_RATE = 5
+MOST_PEOPLE = 30
+MOST_WAYS = 8
+
+DONE = 0
+
+WRONG_ARGUMENT = -1
+NOTHING_OPEN = -2
+NO_SUCH_PLACE_OR_WAY = -3
+WRONG_MINUTE = -4
+NOT_POSSIBLE = -5
+TOO_MANY = -6
