@@ -29,6 +29,16 @@ class Building:
         self.gone = 0
         self.away = 0
 
+    def copied(self):
+        """Gives a building that is the same now; what happens in it leaves this one as it is."""
+        other = Building(self.places, self.horizon)
+        other.now = self.now
+        other.ways = [Way(way.origin, way.target, way.span, way.rates) for way in self.ways]
+        other.newly = [list(row) for row in self.newly]
+        other.gone = self.gone
+        other.away = self.away
+        return other
+
     def has_place(self, place):
         """Tells whether there is such a place."""
         return 0 <= place < self.places

@@ -8,6 +8,14 @@ CALL_ORDERS = 4
 CALL_FOLLOW = 5
 CALL_WALK = 6
 CALL_STATUS = 7
+CALL_HERE = 8
+CALL_COMING = 9
+CALL_WAYS = 10
+CALL_RATES = 11
+CALL_GREATEST = 12
+CALL_CUT = 13
+CALL_BOUND = 14
+CALL_PLAN = 15
 
 # How many whole numbers stand behind the number of each call, from call 0 to call 15, and which calls have a list.
 WHOLE_NUMBERS = (2, 3, 3, 3, 0, 0, 0, 0, 0, 1, 0, 1, 0, 1, 1, 0)

@@ -1,10 +1,12 @@
 """A house: it answers the calls of a request, one behind another."""
 
-from emptying.calls import CALL_FOLLOW, CALL_OPEN, CALL_ORDERS, CALL_PEOPLE, CALL_RATE, CALL_STATUS, CALL_WALK, CALL_WAY
+from emptying.calls import CALL_BOUND, CALL_COMING, CALL_CUT, CALL_FOLLOW, CALL_GREATEST, CALL_HERE, CALL_OPEN
+from emptying.calls import CALL_ORDERS, CALL_PEOPLE, CALL_RATE, CALL_RATES, CALL_STATUS, CALL_WALK, CALL_WAY, CALL_WAYS
 from emptying.calls import split_calls
 from emptying.limits import DONE, NOTHING_OPEN, WRONG_ARGUMENT
-from emptying.operations import add_people, add_way, change_rate, follow_orders, new_building
-from emptying.operations import tell_orders, tell_status, walk_otherwise
+from emptying.operations import add_people, add_way, change_rate, follow_orders, new_building, walk_otherwise
+from emptying.operations import tell_bound, tell_coming, tell_cut, tell_greatest, tell_here, tell_orders, tell_plan
+from emptying.operations import tell_rates, tell_status, tell_ways
 
 
 class House:
@@ -29,7 +31,11 @@ class House:
             return [NOTHING_OPEN]
         if number in (CALL_WAY, CALL_PEOPLE, CALL_RATE):
             return self.answer_news(number, numbers, row)
-        return self.answer_minute(number, row)
+        if number in (CALL_ORDERS, CALL_FOLLOW, CALL_WALK):
+            return self.answer_minute(number, row)
+        if number in (CALL_STATUS, CALL_HERE, CALL_COMING, CALL_WAYS, CALL_RATES):
+            return self.answer_state(number, numbers)
+        return self.answer_plans(number, numbers, row)
 
     def answer_news(self, number, numbers, row):
         """Gives the answer of a call that tells news of the building."""
@@ -40,17 +46,34 @@ class House:
         return change_rate(self.building, numbers[0], numbers[1], numbers[2])
 
     def answer_minute(self, number, row):
-        """Gives the answer of a call that speaks of the minute now."""
+        """Gives the answer of a call that asks for the orders, or goes on to the next minute."""
         if number == CALL_ORDERS:
             return tell_orders(self.building)
         if number == CALL_FOLLOW:
             return follow_orders(self.building)
-        if number == CALL_WALK:
-            return walk_otherwise(self.building, row)
+        return walk_otherwise(self.building, row)
+
+    def answer_state(self, number, numbers):
+        """Gives the answer of a call that asks how the building is."""
         if number == CALL_STATUS:
             return tell_status(self.building)
-        # The calls 8 to 15 change nothing and are not answered yet.
-        return [DONE]
+        if number == CALL_HERE:
+            return tell_here(self.building)
+        if number == CALL_COMING:
+            return tell_coming(self.building, numbers[0])
+        if number == CALL_WAYS:
+            return tell_ways(self.building)
+        return tell_rates(self.building, numbers[0])
+
+    def answer_plans(self, number, numbers, row):
+        """Gives the answer of a call that asks how many can be out, or would be by a plan."""
+        if number == CALL_GREATEST:
+            return tell_greatest(self.building)
+        if number == CALL_CUT:
+            return tell_cut(self.building, numbers[0])
+        if number == CALL_BOUND:
+            return tell_bound(self.building, numbers[0], row)
+        return tell_plan(self.building, row)
 
 
 def answers(calls):

@@ -58,16 +58,7 @@ class Network:
 
     def find_path(self, start, goal):
         """Gives the arcs of a path with room from start to goal, the last one first; None if there is no such path."""
-        arc_to = {start: None}
-        reached = [start]
-        position = 0
-        while position < len(reached) and goal not in arc_to:
-            for arc in self.leaving[reached[position]]:
-                head = self.heads[arc]
-                if self.room[arc] > 0 and head not in arc_to:
-                    arc_to[head] = arc
-                    reached.append(head)
-            position += 1
+        arc_to = self.reach(start)
         if goal not in arc_to:
             return None
         path = []
@@ -76,3 +67,17 @@ class Network:
             path.append(arc_to[node])
             node = self.tail_of(arc_to[node])
         return path
+
+    def reach(self, start):
+        """Gives, for each node to which arcs with room lead from start, the last arc to it; for start itself None."""
+        arc_to = {start: None}
+        reached = [start]
+        position = 0
+        while position < len(reached):
+            for arc in self.leaving[reached[position]]:
+                head = self.heads[arc]
+                if self.room[arc] > 0 and head not in arc_to:
+                    arc_to[head] = arc
+                    reached.append(head)
+            position += 1
+        return arc_to

@@ -1,9 +1,11 @@
 """The operations on a building: the errors of each, in the order in which the document lists them, and its answer."""
 
 from emptying.building import Building, Way
+from emptying.cuts import bound_of_cut, cut_of_minute
 from emptying.limits import DONE, NO_SUCH_PLACE_OR_WAY, NOT_POSSIBLE, TOO_MANY, WRONG_ARGUMENT, WRONG_MINUTE
-from emptying.limits import EXIT_PLACE, MOST_HORIZON, MOST_PEOPLE, MOST_PLACES, MOST_RATE, MOST_SPAN, MOST_WAYS
-from emptying.plans import first_orders
+from emptying.limits import EXIT_PLACE, MOST_CUT_NUMBER, MOST_HORIZON, MOST_PEOPLE, MOST_PLACES, MOST_RATE, MOST_SPAN
+from emptying.limits import MOST_WAYS
+from emptying.plans import first_orders, greatest_numbers, outs_by_plan
 
 
 def is_within(number, least, most):
@@ -103,3 +105,63 @@ def walk_otherwise(building, numbers):
 def tell_status(building):
     """Operation 7."""
     return [DONE, building.now, building.out(), building.total()]
+
+
+def tell_here(building):
+    """Operation 8."""
+    return list_answer([row[building.now] for row in building.newly])
+
+
+def tell_coming(building, place):
+    """Operation 9."""
+    if not building.has_place(place):
+        return [NO_SUCH_PLACE_OR_WAY]
+    return list_answer(building.newly[place][building.now + 1:])
+
+
+def tell_ways(building):
+    """Operation 10: its list has three numbers for each way, and ahead of them the number of ways."""
+    told = [DONE, len(building.ways)]
+    for way in building.ways:
+        told.extend([way.origin, way.target, way.span])
+    return told
+
+
+def tell_rates(building, number):
+    """Operation 11."""
+    if not building.has_way(number):
+        return [NO_SUCH_PLACE_OR_WAY]
+    return list_answer(building.ways[number].rates[building.now:])
+
+
+def tell_greatest(building):
+    """Operation 12."""
+    return list_answer(greatest_numbers(building))
+
+
+def tell_cut(building, minute):
+    """Operation 13."""
+    if not is_within(minute, building.now, building.horizon):
+        return [WRONG_MINUTE]
+    cut = cut_of_minute(building, minute)
+    return [DONE, bound_of_cut(building, minute, cut), len(cut)] + cut
+
+
+def tell_bound(building, minute, cut):
+    """Operation 14."""
+    if not are_within(cut, 0, MOST_CUT_NUMBER) or len(cut) != building.places:
+        return [WRONG_ARGUMENT]
+    if not is_within(minute, building.now, building.horizon):
+        return [WRONG_MINUTE]
+    return [DONE, bound_of_cut(building, minute, cut)]
+
+
+def tell_plan(building, numbers):
+    """Operation 15."""
+    wanted = len(building.ways) * (building.horizon - building.now)
+    if not are_within(numbers, 0, MOST_PEOPLE) or len(numbers) != wanted:
+        return [WRONG_ARGUMENT]
+    outs = outs_by_plan(building, numbers)
+    if outs is None:
+        return [NOT_POSSIBLE]
+    return list_answer(outs)

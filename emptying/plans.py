@@ -1,80 +1,41 @@
-"""The best plans of a building, and the orders that begin the first one of them.
+"""The plans of a building: how many are out by the best ones and by a given one, and the orders to begin with."""
 
-A plan is a flow: whoever waits or enters a way goes along an arc from a place and minute to another one. People come
-from the node `rest`, and whoever is not out by the horizon ends there again; the others end at the node `out`.
-"""
-
+from emptying.flow import Flow
 from emptying.limits import EXIT_PLACE
-from emptying.network import Network
-
-
-class Flow:
-    """A flow in the building from now on; at first nobody leaves.
-
-    entering[number] is the arc of those who enter the way now.
-    """
-
-    def __init__(self, building):
-        self.building = building
-        self.rest = building.places * (building.horizon + 1)
-        self.out_node = self.rest + 1
-        self.everybody = building.total()
-        self.network = Network(self.rest + 2)
-        self.entering = []
-
-    def node(self, place, minute):
-        """Gives the node of the place at the minute; a minute after the horizon is rest, wherever it is."""
-        if minute > self.building.horizon:
-            return self.rest
-        return place * (self.building.horizon + 1) + minute
-
-    def link_places(self):
-        """Lets people come to the places other than the exit, and wait there."""
-        for place in range(self.building.places):
-            if place != EXIT_PLACE:
-                for minute in range(self.building.now, self.building.horizon + 1):
-                    here = self.node(place, minute)
-                    self.network.link(self.rest, here, self.building.newly[place][minute])
-                    self.network.link(here, self.node(place, minute + 1), self.everybody)
-
-    def link_ways(self):
-        """Lets people enter the ways in every minute before the horizon."""
-        for way in self.building.ways:
-            for minute in range(self.building.now, self.building.horizon):
-                begin = self.node(way.origin, minute)
-                end = self.node(way.target, minute + way.span)
-                arc = self.network.link(begin, end, way.rates[minute])
-                if minute == self.building.now:
-                    self.entering.append(arc)
-
-    def send_out(self):
-        """Makes the flow a best plan, and keeps how many are newly out at each minute.
-
-        The minutes are taken in turn, and what has come out is kept at once: it is as much as can be out by its
-        minute, and sending more out at a later minute never takes it back.
-        """
-        for minute in range(self.building.now + 1, self.building.horizon + 1):
-            arc = self.network.link(self.node(EXIT_PLACE, minute), self.out_node, self.everybody)
-            self.network.push(self.rest, self.out_node, self.everybody)
-            self.network.freeze(arc)
-
-    def enter_most(self, arc):
-        """Makes as many as possible go along the arc, keeps them there, and tells how many they are."""
-        before = self.network.carried(arc)
-        spare = self.network.spare(arc)
-        self.network.freeze(arc)
-        # More along the arc makes a circle with a flow from its end back to its beginning; as the arcs to the node
-        # out are frozen, such a circle leaves everybody who is out as they are, so the plan stays best.
-        return before + self.network.push(self.network.head_of(arc), self.network.tail_of(arc), spare)
 
 
 def first_orders(building):
     """Gives the orders of the minute now, one number for each way, and none if now is the horizon."""
     flow = Flow(building)
-    flow.link_places()
-    flow.link_ways()
-    flow.send_out()
+    flow.send_out(building.horizon)
     orders = []
     for arc in flow.entering:
         orders.append(flow.enter_most(arc))
     return orders
+
+
+def greatest_numbers(building):
+    """Gives the greatest numbers for the minutes from now to the horizon."""
+    greatest = [building.out()]
+    over_ways = Flow(building).send_out(building.horizon)
+    anyway = building.newly[EXIT_PLACE][building.now + 1:]
+    for one, other in zip(over_ways, anyway):
+        greatest.append(greatest[-1] + one + other)
+    return greatest
+
+
+def outs_by_plan(building, numbers):
+    """Gives how many are out by each minute from now on by the plan, or None if it is not possible.
+
+    The plan has for each way, one after the other, the numbers for the minutes from now to horizon - 1.
+    """
+    minutes = building.horizon - building.now
+    walked = building.copied()
+    outs = [walked.out()]
+    for passed in range(minutes):
+        entering = numbers[passed::minutes]
+        if not walked.can_enter(entering):
+            return None
+        walked.advance(entering)
+        outs.append(walked.out())
+    return outs

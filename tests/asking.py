@@ -46,3 +46,24 @@ def ask(*calls):
 def last(*calls):
     """The answer of the last one of these calls."""
     return ask(*calls)[-1]
+
+
+def ask_each(build, questions):
+    """The answers of the questions, which change nothing, each asked behind the calls of build.
+
+    They are handed in as few by few as a request allows.
+    """
+    found = []
+    start = 0
+    while start < len(questions):
+        stop = start + 1
+        while stop < len(questions) and is_request(build + questions[start:stop + 1]):
+            stop += 1
+        found += ask(*build, *questions[start:stop])[len(build):]
+        start = stop
+    return found
+
+
+def lane(horizon=3, rate=5, span=1, people=3):
+    """The calls that open a house with people at place 1 and one way from it to the exit."""
+    return [[0, 2, horizon], [1, 1, 0, span, [rate] * horizon], [2, 1, 0, people]]

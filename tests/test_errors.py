@@ -1,4 +1,4 @@
-"""Every error of the operations 0 to 7, their order, and that an error changes nothing."""
+"""Every error of the operations, their order, and that an error changes nothing."""
 
 import unittest
 
@@ -20,9 +20,11 @@ BUILD = [
     [2, 0, 2, 2],
     [6, [1, 2, 1]],
 ]
-# What is asked of a house afterwards: all that operations 0 to 7 can tell of it.
-ASK = [[7], [4], [3, 2, 2, 0], [2, 2, 2, 5], [2, 2, 2, 5], [2, 2, 2, 1], [1, 2, 0, 1, [0, 1, 1, 0]], [4], [5], [4]]
-ASK += [[6, [1, 0, 0, 1]], [5], [4], [7]]
+# What is asked of a house afterwards: every operation, those first that change nothing.
+ASK = [[7], [8], [9, 0], [9, 1], [9, 2], [10], [11, 0], [11, 1], [11, 2], [12], [13, 1], [13, 3], [13, 4], [4]]
+ASK += [[14, 4, [0, 2, 1]], [14, 4, [0, 100, 3]], [15, []], [15, [0, 1, 0, 1, 1, 0, 0, 0, 1]], [15, [0] * 24]]
+ASK += [[3, 2, 2, 0], [2, 2, 2, 5], [2, 2, 2, 5], [2, 2, 2, 1], [1, 2, 0, 1, [0, 1, 1, 0]], [4], [5], [12], [4]]
+ASK += [[6, [1, 0, 0, 1]], [8], [5], [4], [12], [7], [0, 2, 1], [7], [12]]
 
 # The house of BUILD at its horizon.
 END = BUILD + [[6, [0, 0, 0]]] * 3
@@ -45,10 +47,14 @@ class NothingOpen(Codes):
         calls = [[1, 1, 0, 1, []], [1, 0, 0, 0, [9] * 100], [2, 0, 0, 1], [2, 9, 9, 99], [3, 0, 0, 0], [3, 9, 9, 9]]
         calls += [[4], [5], [6, []], [6, [99]], [6, [-BIG] * 100], [7]]
         calls += [[1, BIG, BIG, BIG, [BIG]], [2, -BIG, -BIG, -BIG], [3, BIG, -BIG, BIG]]
+        calls += [[8], [9, 0], [9, 9], [10], [11, 0], [11, -BIG], [12], [13, 0], [13, 9], [13, BIG], [14, 0, [0]]]
+        calls += [[14, 9, []], [14, -BIG, [BIG] * 100], [15, []], [15, [31]], [15, [-BIG] * 100]]
         self.all_refused(-2, calls, build=[])
 
     def test_also_after_a_refused_opening(self):
         self.assertEqual(ask([0, 0, 0], [7], [0, 1, -1], [4], [5], [6, []]), [[-1], [-2], [-1], [-2], [-2], [-2]])
+        others = [[8], [9, 0], [10], [11, 0], [12], [13, 0], [14, 0, [0]], [15, []]]
+        self.assertEqual(ask([0, 6, 0], *others), [[-1]] + [[-2]] * 8)
 
     def test_opening_comes_first(self):
         told = ask([2, 0, 0, 1], [0, 1, 0], [2, 0, 0, 1], [7])
@@ -178,6 +184,78 @@ class Walking(Codes):
         self.all_refused(-1, [[6, [31, 0, 0]], [6, [-1]], [6, [BIG] * 100]], build=END)
         self.all_refused(-4, [[6, []], [6, [0, 0]], [6, [30] * 100]], build=END)
         self.all_refused(-1, [[6, [30]], [6, [30] * 4], [6, [30] * 100]])
+
+
+class Coming(Codes):
+    def test_no_such_place(self):
+        self.all_refused(-3, [[9, place] for place in (-1, 3, 5, *HUGE)])
+        self.all_refused(-3, [[9, 1], [9, -1]], build=[[0, 1, 0]])
+        self.all_refused(-3, [[9, 3]], build=END)
+
+
+class RatesTold(Codes):
+    def test_no_such_way(self):
+        self.all_refused(-3, [[11, way] for way in (-1, 3, 8, *HUGE)])
+        self.all_refused(-3, [[11, 0]], build=[[0, 2, 2]])
+        self.all_refused(-3, [[11, 3], [11, -1]], build=END)
+
+
+class Cuts(Codes):
+    def test_minute(self):
+        self.all_refused(-4, [[13, minute] for minute in (-1, 0, 5, 9, *HUGE)])
+        self.all_refused(-4, [[13, 3], [13, 5]], build=END)
+        self.all_refused(-4, [[13, 1], [13, -1]], build=[[0, 1, 0]])
+        for build, minutes in ((BUILD, (1, 2, 3, 4)), (END, (4,)), ([[0, 1, 0]], (0,))):
+            for minute in minutes:
+                self.assertEqual(last(*build, [13, minute])[0], 0)
+
+
+class Bounds(Codes):
+    def test_numbers_out_of_range(self):
+        for wrong in (-1, 101, *HUGE):
+            self.all_refused(-1, [[14, 2, [wrong, 0, 0]], [14, 2, [0, wrong, 0]], [14, 2, [0, 0, wrong]]])
+        self.assertEqual([last(*BUILD, [14, 2, [number] * 3])[0] for number in (0, 100)], [0, 0])
+
+    def test_length(self):
+        self.all_refused(-1, [[14, 2, [0] * length] for length in (0, 1, 2, 4, 100)])
+        self.all_refused(-1, [[14, 0, []], [14, 0, [0, 0]]], build=[[0, 1, 0]])
+
+    def test_minute(self):
+        self.all_refused(-4, [[14, minute, [0, 0, 0]] for minute in (-1, 0, 5, *HUGE)])
+        self.all_refused(-4, [[14, 3, [0, 0, 0]], [14, 5, [0, 0, 0]]], build=END)
+        self.assertEqual([last(*BUILD, [14, minute, [0, 0, 0]])[0] for minute in (1, 2, 3, 4)], [0] * 4)
+
+    def test_order(self):
+        self.all_refused(-1, [[14, 0, [0, 0]], [14, 9, [101, 0, 0]], [14, BIG, []], [14, -1, [-1] * 100]])
+        self.all_refused(-4, [[14, 0, [0, 100, 0]], [14, 9, [100, 0, 100]]])
+
+
+class Plans(Codes):
+    def test_numbers_out_of_range(self):
+        for wrong in (-1, 31, *HUGE):
+            self.all_refused(-1, [[15, [wrong] + [0] * 8], [15, [0] * 8 + [wrong]], [15, [wrong]], [15, [wrong] * 100]])
+
+    def test_length(self):
+        self.all_refused(-1, [[15, [0] * length] for length in (0, 1, 3, 8, 10, 12, 100)])
+        self.all_refused(-1, [[15, [0] * length] for length in (1, 3, 100)], build=END)
+        self.all_refused(-1, [[15, [0]]], build=[[0, 2, 2]])
+        self.assertEqual([last(*BUILD, [15, [0] * 9])[0], last(*END, [15, []])[0]], [0, 0])
+
+    def test_more_than_the_rate(self):
+        # From now on the rates are 2, 1, 1 and 2, 2, 2 and 1, 1, 1; more people than these are at places 1 and 2.
+        self.all_refused(-5, [[15, [3] + [0] * 8], [15, [0, 2] + [0] * 7], [15, [0, 0, 2] + [0] * 6]])
+        self.all_refused(-5, [[15, [0] * 3 + [3] + [0] * 5], [15, [0] * 8 + [2]], [15, [30] * 9], [15, [0] * 8 + [30]]])
+
+    def test_more_than_the_people(self):
+        build = [[0, 3, 2], [1, 1, 0, 1, [5, 5]], [1, 2, 0, 1, [5, 5]], [1, 1, 2, 1, [5, 5]]]
+        build += [[2, 1, 0, 4], [2, 2, 1, 3]]
+        wrong = [[5, 0, 0, 0, 0, 0], [2, 3, 0, 0, 0, 0], [2, 0, 0, 0, 3, 0], [2, 0, 0, 0, 0, 3], [0, 0, 1, 0, 0, 0]]
+        self.all_refused(-5, [[15, numbers] for numbers in [*wrong, [0, 0, 0, 4, 0, 0]]], build=build)
+        self.assertEqual(last(*build, [15, [2, 0, 0, 5, 2, 0]]), [0, 3, 0, 2, 7])
+
+    def test_order(self):
+        self.all_refused(-1, [[15, [30] * 8], [15, [30] * 10], [15, [30] * 8 + [31]], [15, [30] * 8 + [-1]]])
+        self.all_refused(-1, [[15, [30]], [15, [31]]], build=END)
 
 
 if __name__ == "__main__":

@@ -1,9 +1,9 @@
-"""Requirements 6 and 7: news and other walks in between, then orders again."""
+"""Requirements 6, 7 and 8: news and other walks in between, then orders, greatest numbers and cuts again."""
 
 import unittest
 
-from asking import ask
-from model import Numbers, scattered
+from asking import ask, ask_each, last
+from model import Numbers, scattered, some_walk
 
 
 def followed(calls, horizon):
@@ -11,6 +11,13 @@ def followed(calls, horizon):
     told = ask(*calls, [7])[-1]
     told = ask(*calls, [7], *[[5]] * (horizon - told[1]))[len(calls):]
     return [answer[2] for answer in told]
+
+
+def greatest(calls):
+    """What operation 12 returns then."""
+    told = last(*calls, [12])
+    assert told[:2] == [0, len(told) - 2]
+    return told[2:]
 
 
 def start(seed):
@@ -49,7 +56,24 @@ class NewsInBetween(unittest.TestCase):
         orders = model.orders()
         self.assertEqual(told[0], [0, len(orders)] + orders, (seed, calls))
         self.assertEqual(told[1], [0, model.now, model.out(), model.total()], (seed, calls))
-        self.assertEqual(followed(calls, model.horizon), model.greatest(), (seed, calls))
+        wanted = model.greatest()
+        self.assertEqual(followed(calls, model.horizon), wanted, (seed, calls))
+        self.assertEqual(greatest(calls), wanted, (seed, calls))
+        self.assertEqual((wanted[0], wanted), (model.out(), sorted(wanted)), (seed, calls))
+        minutes = range(model.now, model.horizon + 1)
+        for minute, cut in zip(minutes, ask_each(calls, [[13, minute] for minute in minutes])):
+            bound, numbers = model.cut(minute)
+            self.assertEqual(cut, [0, bound, len(numbers)] + numbers, (seed, calls, minute))
+            self.assertEqual(bound, wanted[minute - model.now])
+
+    def check_state(self, calls, model, seed):
+        now = model.now
+        questions = [[8], [10], *[[9, place] for place in range(3)], *[[11, way] for way in range(len(model.ways))]]
+        wanted = [[0, 3] + [row[now] for row in model.news]]
+        wanted.append([0, len(model.ways)] + [number for way in model.ways for number in way[:3]])
+        for row in [row[now + 1:] for row in model.news] + [way[3][now:] for way in model.ways]:
+            wanted.append([0, len(row)] + row)
+        self.assertEqual(ask_each(calls, questions), wanted, (seed, calls))
 
     def test_news_and_other_walks(self):
         for seed in range(40):
@@ -57,15 +81,18 @@ class NewsInBetween(unittest.TestCase):
             calls = model.calls()
             while model.now < model.horizon:
                 self.check(calls, model, seed)
+                self.check_state(calls, model, seed)
                 for _ in range(numbers.below(3)):
                     news = (new_people, new_rate, new_way)[numbers.below(3 if len(model.ways) < 8 else 2)]
                     calls.append(news(numbers, model))
                 self.check(calls, model, seed)
+                self.check_state(calls, model, seed)
                 choices = list(model.entries())
                 walk = choices[numbers.below(len(choices))]
                 calls.append([6, list(walk)])
                 model = model.walked(walk)
             self.check(calls, model, seed)
+            self.check_state(calls, model, seed)
 
     def test_answers_of_news(self):
         for seed in range(40):
@@ -80,26 +107,47 @@ class NewsInBetween(unittest.TestCase):
 
 
 class MoreOrLess(unittest.TestCase):
+    """Also after a walk, when people are on ways already."""
+
+    def start(self, seed):
+        numbers, model = start(seed)
+        calls = model.calls()
+        for _ in range(numbers.below(2)):
+            walk = some_walk(numbers, model)
+            calls.append([6, walk])
+            model = model.walked(walk)
+        return numbers, model, calls
+
+    def check(self, before, after, most, calls):
+        self.assertEqual(len(before), len(after))
+        self.assertTrue(all(0 <= later - first <= most for first, later in zip(before, after)), calls)
+
     def test_greater_rate(self):
-        for seed in range(40):
-            numbers, model = start(5000 + seed)
-            calls = model.calls()
+        for seed in range(60):
+            numbers, model, calls = self.start(5000 + seed)
             way = numbers.below(len(model.ways))
-            minute = numbers.below(model.horizon)
-            before = followed(calls + [[3, way, minute, 0]], model.horizon)
-            for value in range(1, 6):
-                after = followed(calls + [[3, way, minute, value]], model.horizon)
-                self.assertTrue(all(0 <= b - a <= value for a, b in zip(before, after)), (seed, value))
+            minute = numbers.between(model.now, model.horizon - 1)
+            lists = [greatest(calls + [[3, way, minute, value]]) for value in range(6)]
+            for least in range(6):
+                for most in range(least, 6):
+                    self.check(lists[least], lists[most], most - least, (calls, way, minute))
+            self.assertEqual(lists[4], followed(calls + [[3, way, minute, 4]], model.horizon))
 
     def test_more_people(self):
-        for seed in range(40):
-            numbers, model = start(6000 + seed)
-            calls = model.calls()
-            before = followed(calls, model.horizon)
+        for seed in range(60):
+            numbers, model, calls = self.start(6000 + seed)
+            before = greatest(calls)
             for count in (1, 2, 5):
                 for place in range(3):
-                    after = followed(calls + [[2, place, numbers.between(0, model.horizon), count]], model.horizon)
-                    self.assertTrue(all(0 <= b - a <= count for a, b in zip(before, after)), (seed, place, count))
+                    more = calls + [[2, place, numbers.between(model.now, model.horizon), count]]
+                    self.check(before, greatest(more), count, more)
+                    self.assertEqual(greatest(more), followed(more, model.horizon), more)
+
+    def test_one_more_way(self):
+        for seed in range(60):
+            numbers, model, calls = self.start(6500 + seed)
+            closed = new_way(numbers, model)[:4] + [[0] * model.horizon]
+            self.assertEqual(greatest(calls), greatest(calls + [closed]), calls)
 
 
 class NothingElse(unittest.TestCase):
@@ -110,7 +158,7 @@ class NothingElse(unittest.TestCase):
             ways = [call for call in calls if call[0] == 1]
             people = [call for call in calls if call[0] == 2]
             other = [calls[0]] + people[::-1] + ways
-            end = [[7], [4], [5], [7], [4], [5], [7]]
+            end = [[7], [4], [8], [9, 0], [9, 1], [9, 2], [12], [13, 1], [5], [7], [8], [12], [13, 2], [4], [5], [7]]
             self.assertEqual(ask(*calls, *end)[len(calls):], ask(*other, *end)[len(other):], seed)
 
     def test_rate_told_later_is_as_if_told_first(self):
@@ -123,8 +171,8 @@ class NothingElse(unittest.TestCase):
             _, told_first = start(8000 + seed)
             told_first.ways = model.ways
             after = told_first.calls() + [walk]
-            end = [[7], [4], [5], [7]]
-            self.assertEqual(ask(*before, change, *end)[-4:], ask(*after, *end)[-4:], seed)
+            end = [[7], [4], [11, 0], [12], [13, model.horizon], [5], [7], [12]]
+            self.assertEqual(ask(*before, change, *end)[len(before) + 1:], ask(*after, *end)[len(after):], seed)
 
     def test_only_people_change_the_total(self):
         for seed in range(40):

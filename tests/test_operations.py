@@ -2,12 +2,7 @@
 
 import unittest
 
-from asking import ask, last
-
-
-def lane(horizon=3, rate=5, span=1, people=3):
-    """The calls that open a house with people at place 1 and one way from it to the exit."""
-    return [[0, 2, horizon], [1, 1, 0, span, [rate] * horizon], [2, 1, 0, people]]
+from asking import ask, lane, last
 
 
 class Opening(unittest.TestCase):

@@ -1,23 +1,9 @@
-"""Requirements 1, 3, 4 and 5, held against all possible plans and against the bounds of all cuts."""
+"""Requirements 1, 3, 4, 5 and 8, held against all possible plans, the bounds of all cuts, and operation 12."""
 
 import unittest
 
 from asking import ask, last
-from model import Model, Numbers, scattered
-
-
-def small(seed):
-    """A building small enough for all its plans."""
-    numbers = Numbers(seed)
-    horizon = numbers.between(1, 3)
-    return scattered(numbers, numbers.between(2, 3), horizon, numbers.between(1, 3), numbers.between(1, 5), 2)
-
-
-def larger(seed):
-    """A building small enough for all its cuts."""
-    numbers = Numbers(seed)
-    horizon = numbers.between(3, 5)
-    return scattered(numbers, numbers.between(3, 4), horizon, numbers.between(4, 8), numbers.between(8, 25), 5)
+from model import Model, Numbers, larger, later, scattered, small, some_walk
 
 
 def outs_of(model, walks):
@@ -100,6 +86,53 @@ class LaterMinutes(unittest.TestCase):
                 build = model.calls() + [[6, list(numbers)]]
                 told = ask(*build, [7], *[[5]] * (model.horizon - 1))[len(build):]
                 self.assertEqual([answer[2] for answer in told], after, (seed, numbers))
+
+
+class GreatestNumbers(unittest.TestCase):
+    """What operation 12 returns from minute to minute."""
+
+    def test_following_reaches_them_and_leaves_them(self):
+        for make in (small, larger):
+            for seed in range(80):
+                calls, model = later(seed, make)
+                told = ask(*calls, [12], *[[5], [12]] * (model.horizon - model.now))[len(calls):]
+                wanted = told[0][2:]
+                for passed, (followed, greatest) in enumerate(zip(told[1::2], told[2::2]), start=1):
+                    self.assertEqual(followed, [0, model.now + passed, wanted[passed]], calls)
+                    self.assertEqual(greatest, [0, len(wanted) - passed] + wanted[passed:], calls)
+
+    def test_no_walk_makes_one_greater(self):
+        for seed in range(80):
+            calls, model = later(seed, small)
+            if model.now < model.horizon:
+                wanted = last(*calls, [12])[2:]
+                for numbers in model.entries():
+                    walked, greatest = ask(*calls, [6, numbers], [12])[-2:]
+                    self.assertEqual(greatest[:3], [0, len(wanted) - 1, walked[2]], calls)
+                    self.assertTrue(all(one <= other for one, other in zip(greatest[2:], wanted[1:])), calls)
+
+    def test_orders_are_the_first_numbers_that_leave_them(self):
+        for seed in range(80):
+            calls, model = later(seed, small)
+            if model.now < model.horizon:
+                wanted = last(*calls, [12])[3:]
+                keep = [numbers for numbers in model.entries() if last(*calls, [6, numbers], [12])[2:] == wanted]
+                self.assertEqual(last(*calls, [4])[2:], list(max(keep)), calls)
+
+    def test_walks_of_a_larger_building_never_have_more_out(self):
+        for seed in range(60):
+            numbers = Numbers(seed)
+            model = larger(seed)
+            build = model.calls()
+            calls = build + [[12]]
+            while model.now < model.horizon:
+                walk = some_walk(numbers, model)
+                calls += [[6, walk], [12]]
+                model = model.walked(walk)
+            told = ask(*calls)[len(build):]
+            for before, walked, after in zip(told[::2], told[1::2], told[2::2]):
+                self.assertLessEqual(walked[2], before[3], calls)
+                self.assertTrue(all(one <= other for one, other in zip(after[2:], before[3:])), calls)
 
 
 class AllCuts(unittest.TestCase):
